@@ -1,0 +1,1 @@
+"""Blotsum: sums whose figures can't all be read."""
