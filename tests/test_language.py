@@ -69,6 +69,11 @@ class Language(unittest.TestCase):
             if isinstance(node.value, str):
                 self.assertNotIn(chr(37), node.value)
 
+    def test_exponents_are_literal(self):
+        for name, node in self.nodes(ast.BinOp, ast.AugAssign):
+            if isinstance(node.op, ast.Pow):
+                self.assertIsInstance(getattr(node, "right", None), ast.Constant, (name, node.lineno))
+
     def test_builtins(self):
         for name, node in self.nodes(ast.Name):
             if hasattr(builtins, node.id):
