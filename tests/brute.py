@@ -159,6 +159,79 @@ def times_narrowed(product):
     return narrow[0], narrow[1][0], narrow[2]
 
 
+def riddle_letters(riddle):
+    words, total = riddle
+    return sorted(set("".join((*words, total))))
+
+
+def solves(riddle, figures):
+    """Whether figures, a dict by letters, solve a riddle: by texts of figures, letter for letter."""
+    words, total = riddle
+    texts = [word.translate({ord(letter): str(figures[letter]) for letter in figures}) for word in (*words, total)]
+    if len(set(figures.values())) < len(figures) or any(len(text) > 1 and text[0] == "0" for text in texts):
+        return False
+    return sum(int(text) for text in texts[:-1]) == int(texts[-1])
+
+
+@functools.lru_cache(maxsize=None)
+def solutions(riddle):
+    """All solutions, by all unlike figures for the letters; as tuples of tuples."""
+    letters = riddle_letters(riddle)
+    found = [tuple(zip(letters, figures)) for figures in itertools.permutations(range(10), len(letters))]
+    return tuple(sorted(one for one in found if solves(riddle, dict(one))))
+
+
+def spot_text(spot):
+    if len(spot) == 10:
+        return "?"
+    return "[" + spot + "]" if len(spot) > 1 else spot
+
+
+def entry_text(entry):
+    return "".join(map(spot_text, entry))
+
+
+def sum_text(page):
+    text = ""
+    for part in page[0]:
+        text += (" + " if text else "") + entry_text(part)
+    return text + " = " + entry_text(page[1])
+
+
+def settled(page):
+    """By all fillings: the spots that are not clear and have one figure in each."""
+    told = []
+    for at, entry in enumerate((*page[0], page[1])):
+        for spot, figures in enumerate(entry):
+            here = {str(filling[at])[spot] for filling in fillings(page)}
+            if len(here) == 1 and len(figures) > 1:
+                told.append((at, spot, *here))
+    return told
+
+
+def some_word(chance, letters, most):
+    return "".join(chance.choice(letters) for _ in range(chance.randint(1, most)))
+
+
+def some_riddle(chance, letters, most_words=4, most_letters=8):
+    words = tuple(some_word(chance, letters, most_letters) for _ in range(chance.randint(1, most_words)))
+    return words, some_word(chance, letters, most_letters)
+
+
+def riddle_around(chance, letters, most_words=3, most_letters=4):
+    """A riddle that has a solution: numbers of figures that have letters. None where a figure has no letter."""
+    figures = dict(zip(chance.sample(BLOT, len(letters)), letters))
+    numbers = []
+    for _ in range(chance.randint(2, most_words)):
+        text = "".join(chance.choice(list(figures)) for _ in range(chance.randint(1, most_letters)))
+        numbers.append(int(text))
+    texts = [str(number) for number in (*numbers, sum(numbers))]
+    if any(sign not in figures for text in texts for sign in text):
+        return None
+    words = ["".join(figures[sign] for sign in text) for text in texts]
+    return tuple(words[:-1]), words[-1]
+
+
 def some_spot(chance, most=10):
     many = chance.randint(1, most)
     return "".join(sorted(chance.sample(BLOT, many)))

@@ -13,7 +13,7 @@ BUILTINS = set("""len range enumerate zip min max sum abs sorted reversed int st
     NotImplemented super""".split())
 METHODS = set("""append clear copy count endswith extend find get index insert isalnum isalpha isdigit islower isspace
     isupper items join keys ljust lower lstrip partition pop remove replace reverse rfind rjust rpartition rsplit
-    rstrip setdefault split splitlines startswith strip update upper values zfill bit_length add discard sort
+    rstrip setdefault split splitlines startswith strip update upper values zfill bit_length
     __init__""".split())
 WORDS = set("""type typing typing_extensions enum Enum IntEnum StrEnum Flag IntFlag Generic Protocol ABC ABCMeta
     namedtuple NamedTuple TypedDict TYPE_CHECKING abstractmethod""".split())
@@ -100,6 +100,31 @@ class Language(unittest.TestCase):
                if isinstance(item, ast.FunctionDef)}
         stored = {node.attr for name, node in self.nodes(ast.Attribute) if isinstance(node.ctx, ast.Store)}
         self.assertEqual(own & stored, set())
+
+    def test_no_local_name_is_an_import_or_a_class(self):
+        for name, tree in self.trees.items():
+            taken = {one.name for node in tree.body if isinstance(node, ast.ImportFrom) for one in node.names}
+            taken |= {node.name for node in tree.body if isinstance(node, ast.ClassDef)}
+            local = {node.id for node in ast.walk(tree) if isinstance(node, ast.Name) and isinstance(node.ctx, ast.Store)}
+            local |= {node.arg for node in ast.walk(tree) if isinstance(node, ast.arg)}
+            self.assertEqual(taken & local, set(), name)
+
+    def test_only_own_errors_are_caught_and_raised(self):
+        own = {node.name for name, node in self.nodes(ast.ClassDef) if name == "errors"}
+        for name, node in self.nodes(ast.ExceptHandler):
+            self.assertIn(node.type.id, own, (name, node.lineno))
+        for name, node in self.nodes(ast.Raise):
+            self.assertIsInstance(node.exc, ast.Call, (name, node.lineno))
+            self.assertIn(node.exc.func.id, own | {"NotImplementedError"}, (name, node.lineno))
+
+    def test_double_underscore_methods(self):
+        told = {"__init__", "__len__", "__str__", "__eq__"}
+        for name, node in self.nodes(ast.FunctionDef):
+            if node.name.startswith("_"):
+                self.assertIn(node.name, told, (name, node.lineno))
+        for name, node in self.nodes(ast.FunctionDef):
+            if node.name in ("__len__", "__str__"):
+                self.assertEqual(node.body[-1].value.func.id, {"__len__": "len", "__str__": "str"}[node.name])
 
 
 if __name__ == "__main__":
